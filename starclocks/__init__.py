@@ -1,0 +1,1 @@
+"""Starclocks: hands that meet two at a time, and marks by which all that was ahead can be told."""

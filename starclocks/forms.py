@@ -1,0 +1,28 @@
+"""The forms of plain values, asked of values that may be anything built from tuples, texts and numbers."""
+
+
+def is_number(value):
+    """Whether the value is an int that is neither True nor False."""
+    return isinstance(value, int) and not isinstance(value, bool)
+
+
+def is_index(value, many):
+    """Whether the value is a number from 0 to many - 1."""
+    return is_number(value) and 0 <= value < many
+
+
+def is_pair(value):
+    """Whether the value is a tuple of two."""
+    return isinstance(value, tuple) and len(value) == 2
+
+
+def is_rising(value, many):
+    """Whether the value is a strictly ascending tuple of numbers from 0 to many - 1."""
+    if not isinstance(value, tuple):
+        return False
+    last = -1
+    for entry in value:
+        if not is_index(entry, many) or entry <= last:
+            return False
+        last = entry
+    return True

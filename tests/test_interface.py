@@ -1,0 +1,93 @@
+"""[0.1] and the interface: names, arguments and files; and rules of form that hold for every file."""
+
+import ast
+import importlib
+import inspect
+import unittest
+from pathlib import Path
+
+from starclocks.fewest import fewest
+from starclocks.parts import house, is_parts, part_of
+from starclocks.webs import some_parts, two_sides
+from tests.helper import plain
+
+PACKAGE = Path(__file__).resolve().parent.parent / "starclocks"
+
+INTERFACE = {
+    "webs": {"some_parts": "n roads", "two_sides": "n roads"},
+    "parts": {"House": None, "house": "n roads parts", "is_parts": "n roads parts", "part_of": "house road"},
+    "fewest": {"fewest": "n roads"},
+}
+
+
+class Interface(unittest.TestCase):
+    def test_defined_where_it_is_listed(self):
+        for file, listed in INTERFACE.items():
+            module = importlib.import_module("starclocks." + file)
+            for name, names in listed.items():
+                found = getattr(module, name)
+                self.assertEqual(found.__module__, "starclocks." + file)
+                if names is not None:
+                    self.assertTrue(inspect.isfunction(found))
+                    self.assertEqual(list(inspect.signature(found).parameters), names.split(), name)
+
+
+class Unchanged(unittest.TestCase):
+    ROADS = ((0, 1), (0, 2), (1, 3), (2, 3))
+
+    def test_nothing_handed_in_is_changed(self):
+        roads, parts = tuple(list(self.ROADS)), ((0, 1), (2, 3))
+        made = house(4, roads, parts)
+        for _ in range(2):
+            some_parts(4, roads)
+            two_sides(4, roads)
+            fewest(4, roads)
+            is_parts(4, roads, parts)
+            part_of(made, 3)
+        self.assertEqual((roads, parts), (self.ROADS, ((0, 1), (2, 3))))
+        self.assertEqual((made.n, made.roads, made.parts), (4, self.ROADS, ((0, 1), (2, 3))))
+        self.assertEqual(made, house(4, self.ROADS, parts))
+
+    def test_tuples_are_returned_and_the_same_again(self):
+        for call in (some_parts, two_sides, fewest):
+            got = call(4, self.ROADS)
+            plain(self, got)
+            self.assertIs(type(got), tuple)
+            self.assertEqual(call(4, self.ROADS), got)
+
+
+class Files(unittest.TestCase):
+    def sources(self):
+        return [(path.name, path.read_text()) for path in sorted(PACKAGE.glob("*.py"))]
+
+    def test_the_folder_contains_just_plain_files(self):
+        for path in PACKAGE.iterdir():
+            if path.name != "__pycache__":
+                self.assertRegex(path.name, r"^[a-z_]+\.py$")
+
+    def test_sizes_and_signs(self):
+        for name, text in self.sources():
+            self.assertLess(text.count("\n"), 400, name)
+            for line in text.split("\n"):
+                self.assertLessEqual(len(line), 120, name)
+                self.assertTrue(all(" " <= sign <= "~" for sign in line), name)
+            for node in ast.walk(ast.parse(text)):
+                if isinstance(node, ast.FunctionDef):
+                    self.assertLessEqual(node.end_lineno - node.lineno + 1, 40, node.name)
+
+    def test_imports_are_from_the_package_alone(self):
+        for name, text in self.sources():
+            for node in ast.walk(ast.parse(text)):
+                self.assertNotIsInstance(node, ast.Import, name)
+                if isinstance(node, ast.ImportFrom):
+                    self.assertTrue(node.module.startswith("starclocks."), name)
+
+    def test_builtins_over_items_take_lists(self):
+        # House has an __eq__, and beside one the language rules want lists here.
+        for name, text in self.sources():
+            for node in ast.walk(ast.parse(text)):
+                self.assertNotIsInstance(node, ast.GeneratorExp, name)
+
+
+if __name__ == "__main__":
+    unittest.main()
