@@ -26,3 +26,8 @@ def is_rising(value, many):
             return False
         last = entry
     return True
+
+
+def is_mark(value):
+    """Whether the value is a tuple of numbers from 0 on."""
+    return isinstance(value, tuple) and all([is_number(entry) and entry >= 0 for entry in value])

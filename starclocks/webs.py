@@ -41,12 +41,12 @@ def check_web(n, roads):
 
 
 def mates_of(n, roads):
-    """For each hand the list of its mates, ascending."""
+    """For each hand the list of its mates; they ascend, as roads do."""
     mates = [[] for _ in range(n)]
     for one, two in roads:
         mates[one].append(two)
         mates[two].append(one)
-    return [sorted(row) for row in mates]
+    return mates
 
 
 def busiest(n, roads, left):

@@ -6,10 +6,16 @@ import inspect
 import unittest
 from pathlib import Path
 
+from starclocks.asks import ahead, depth, first_beside, past
+from starclocks.errors import BadMark
 from starclocks.fewest import fewest
+from starclocks.histories import is_history
+from starclocks.logs import logs_of
+from starclocks.logsjudge import fault, logs_right
+from starclocks.marks import hand_marks, marks, names
 from starclocks.parts import house, is_parts, part_of
 from starclocks.webs import some_parts, two_sides
-from tests.helper import plain
+from tests.helper import plain, refuses
 
 PACKAGE = Path(__file__).resolve().parent.parent / "starclocks"
 
@@ -17,6 +23,12 @@ INTERFACE = {
     "webs": {"some_parts": "n roads", "two_sides": "n roads"},
     "parts": {"House": None, "house": "n roads parts", "is_parts": "n roads parts", "part_of": "house road"},
     "fewest": {"fewest": "n roads"},
+    "histories": {"is_history": "house history"},
+    "marks": {"marks": "house history", "names": "house history", "hand_marks": "house history"},
+    "asks": {"ahead": "one two", "past": "house history index", "depth": "house history index",
+             "first_beside": "house history"},
+    "logs": {"logs_of": "house history"},
+    "logsjudge": {"fault": "house logs", "logs_right": "house logs"},
 }
 
 
@@ -48,12 +60,40 @@ class Unchanged(unittest.TestCase):
         self.assertEqual((made.n, made.roads, made.parts), (4, self.ROADS, ((0, 1), (2, 3))))
         self.assertEqual(made, house(4, self.ROADS, parts))
 
+    def test_a_house_stays_as_it_is(self):
+        made = house(4, self.ROADS, ((0, 1), (2, 3)))
+        before = dict(vars(made))
+        history = (0, 3, 1, 2, 0)
+        logs = logs_of(made, history)
+        for call in (marks, names, hand_marks, first_beside, is_history, logs_of):
+            self.assertEqual(call(made, history), call(made, history))
+        for call in (past, depth):
+            self.assertEqual(call(made, history, 4), call(made, history, 4))
+        ahead(*marks(made, history)[:2])
+        self.assertIsNone(fault(made, logs))
+        self.assertIs(logs_right(made, logs), True)
+        self.assertEqual(vars(made), before)
+        self.assertEqual((history, logs), ((0, 3, 1, 2, 0), logs_of(made, (0, 3, 1, 2, 0))))
+
     def test_tuples_are_returned_and_the_same_again(self):
         for call in (some_parts, two_sides, fewest):
             got = call(4, self.ROADS)
             plain(self, got)
             self.assertIs(type(got), tuple)
             self.assertEqual(call(4, self.ROADS), got)
+
+
+class Numbers(unittest.TestCase):
+    def test_true_and_false_are_no_numbers(self):
+        home = house(2, ((0, 1),), ((0,),))
+        self.assertIs(is_parts(True, (), ()), False)
+        self.assertIs(is_parts(2, ((False, True),), ((0,),)), False)
+        self.assertIs(is_parts(2, ((0, 1),), ((False,),)), False)
+        self.assertIs(is_history(home, (False,)), False)
+        self.assertIs(logs_right(home, (((True, (1,)),), ((0, (1,)),))), False)
+        self.assertIs(logs_right(home, (((1, (True,)),), ((0, (1,)),))), False)
+        refuses(self, BadMark, 0, ahead, (False,), (1,))
+        refuses(self, BadMark, 1, ahead, (0,), (True,))
 
 
 class Files(unittest.TestCase):
