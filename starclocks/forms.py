@@ -16,16 +16,24 @@ def is_pair(value):
     return isinstance(value, tuple) and len(value) == 2
 
 
+def is_number_pair(value):
+    """Whether the value is a tuple of two numbers."""
+    return is_pair(value) and is_number(value[0]) and is_number(value[1])
+
+
+def bad_rise(entries, many):
+    """The index of the first entry that is not from 0 to many - 1 or is not above the one before it, or None."""
+    last = -1
+    for i, entry in enumerate(entries):
+        if not is_index(entry, many) or entry <= last:
+            return i
+        last = entry
+    return None
+
+
 def is_rising(value, many):
     """Whether the value is a strictly ascending tuple of numbers from 0 to many - 1."""
-    if not isinstance(value, tuple):
-        return False
-    last = -1
-    for entry in value:
-        if not is_index(entry, many) or entry <= last:
-            return False
-        last = entry
-    return True
+    return isinstance(value, tuple) and bad_rise(value, many) is None
 
 
 def is_mark(value):

@@ -20,16 +20,25 @@ def mark_ahead(log, index):
     return log[index - 1][1]
 
 
+def why_unpaired(places, hand, row):
+    """1 if the mate's log does not have the row just once, else 2 if this log has it more than once, else None."""
+    mate, mark = row
+    if len(places[mate].get((hand, mark), [])) != 1:
+        return 1
+    if len(places[hand][row]) > 1:
+        return 2
+    return None
+
+
 def why_bad(logs, places, tied, hand, index):
     """The least number of a fault of this row, 1 to 3, or None; all rows have the form of rows."""
-    mate, mark = logs[hand][index]
-    twins = places[mate].get((hand, mark), [])
-    if len(twins) != 1:
-        return 1
-    if len(places[hand][(mate, mark)]) > 1:
-        return 2
+    row = logs[hand][index]
+    why = why_unpaired(places, hand, row)
+    if why is not None:
+        return why
+    mate, mark = row
     own = mark_ahead(logs[hand], index)
-    other = mark_ahead(logs[mate], twins[0])
+    other = mark_ahead(logs[mate], places[mate][(hand, mark)][0])
     if mark != made_mark(own, other, tied[(hand, mate)]):
         return 3
     return None
@@ -56,9 +65,13 @@ def are_logs(house, value):
             and all([isinstance(log, tuple) for log in value]))
 
 
+def meetings_many(logs):
+    """How many meetings logs without a fault have: each one stands in just two of them."""
+    return sum([len(log) for log in logs]) // 2
+
+
 def logs_right(house, logs):
     """Whether the value, which may be any, is right logs of the house."""
     if not are_logs(house, logs) or fault(house, logs) is not None:
         return False
-    # Without a fault each meeting stands in just two logs.
-    return sum([len(log) for log in logs]) <= 2 * MOST_MEETINGS
+    return meetings_many(logs) <= MOST_MEETINGS

@@ -7,8 +7,8 @@ from random import Random
 from starclocks.logs import logs_of
 from starclocks.logsjudge import fault, logs_right
 from starclocks.parts import house
-from tests.helper import (BARE, HOUSES, LINE, MIXED, ODD, ONE_STAR, PIECES, ROAD, TRIANGLE, full_house, part_at,
-                          some_histories)
+from tests.helper import (BARE, HOUSES, LINE, ODD, ONE_STAR, PIECES, ROAD, TRIANGLE, full_house, part_at,
+                          some_histories, spoilt, two_roads, with_row)
 
 A = logs_of(LINE, (0, 1, 0))
 B = logs_of(PIECES, (0, 0, 1))
@@ -58,41 +58,6 @@ def fault_by_words(home, logs):
         if mark != made_there(home, logs, hand, index):
             return (hand, index, 3)
     return None
-
-
-def spoilt(chance, home, logs):
-    """The logs with one to three small changes."""
-    rows = [list(log) for log in logs]
-    for _ in range(chance.randint(1, 3)):
-        log = rows[chance.choice([h for h in range(home.n) if rows[h]] or [0])]
-        if not log:
-            continue
-        at = chance.randrange(len(log))
-        how = chance.randrange(6)
-        mate, mark = log[at] if how < 4 else (0, ())
-        if how == 0:
-            del log[at]
-        elif how == 1:
-            log.insert(chance.randint(0, len(log)), log[at])
-        elif how == 2 and mark:
-            entry = chance.randrange(len(mark))
-            mark = mark[:entry] + (max(0, mark[entry] + chance.choice((-1, 1))),) + mark[entry + 1:]
-            log[at] = (mate, mark)
-        elif how == 3:
-            log[at] = (chance.randrange(home.n), mark)
-        elif how == 4:
-            other = chance.randrange(len(log))
-            log[at], log[other] = log[other], log[at]
-        elif chance.random() < 0.3:
-            log[at] = chance.choice(ODD)
-            break
-    return tuple(tuple(log) for log in rows)
-
-
-def with_row(logs, hand, index, *rows):
-    """The logs with other rows in the place of one."""
-    log = logs[hand][:index] + rows + logs[hand][index + 1:]
-    return logs[:hand] + (log,) + logs[hand + 1:]
 
 
 class Both(unittest.TestCase):
@@ -226,10 +191,7 @@ class Faults(Both):
 class Right(Both):
     def test_201_meetings(self):
         for many in (100, 101):
-            ones = tuple((k, 0) for k in range(1, many + 1))
-            twos = tuple((0, k) for k in range(1, 101))
-            logs = (tuple((1, mark) for mark in ones), tuple((0, mark) for mark in ones),
-                    tuple((3, mark) for mark in twos), tuple((2, mark) for mark in twos))
+            logs = two_roads(many, 100)
             self.assertIsNone(fault(PIECES, logs))
             self.assertIs(logs_right(PIECES, logs), many == 100)
 
