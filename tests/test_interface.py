@@ -7,13 +7,22 @@ import unittest
 from pathlib import Path
 
 from starclocks.asks import ahead, depth, first_beside, past
+from starclocks.cutlooks import cut_of_rows, cuts_many, greatest_cut, least_cut
+from starclocks.cuts import cut_rows, is_cut, totals
 from starclocks.errors import BadMark
 from starclocks.fewest import fewest
+from starclocks.hidden import hidden_ahead, sure_hidden
 from starclocks.histories import is_history
 from starclocks.logs import logs_of
 from starclocks.logsjudge import fault, logs_right
+from starclocks.lost import kept_logs, whole_again
 from starclocks.marks import hand_marks, marks, names
+from starclocks.merged import history_of
+from starclocks.orders import nth_order, order_rank, orders_many
 from starclocks.parts import house, is_parts, part_of
+from starclocks.rebuilt import all_logs, kept_right, rebuilt
+from starclocks.slices import clipped, forgotten, sliced
+from starclocks.strikes import struck
 from starclocks.webs import some_parts, two_sides
 from tests.helper import plain, refuses
 
@@ -29,6 +38,16 @@ INTERFACE = {
              "first_beside": "house history"},
     "logs": {"logs_of": "house history"},
     "logsjudge": {"fault": "house logs", "logs_right": "house logs"},
+    "merged": {"history_of": "house logs"},
+    "cuts": {"totals": "house logs", "is_cut": "house logs cut", "cut_rows": "house logs cut"},
+    "cutlooks": {"greatest_cut": "house logs bound", "cut_of_rows": "house logs rows", "least_cut": "house logs names",
+                 "cuts_many": "house logs"},
+    "orders": {"orders_many": "house logs low high", "nth_order": "house logs k", "order_rank": "house logs history"},
+    "strikes": {"struck": "house logs name"},
+    "slices": {"clipped": "mark base", "sliced": "house logs low high", "forgotten": "house logs cut"},
+    "lost": {"kept_logs": "house logs lost", "whole_again": "house kept lost"},
+    "hidden": {"sure_hidden": "house kept lost", "hidden_ahead": "house kept lost name of"},
+    "rebuilt": {"rebuilt": "house kept lost", "all_logs": "house kept lost", "kept_right": "house kept lost"},
 }
 
 
@@ -75,6 +94,27 @@ class Unchanged(unittest.TestCase):
         self.assertEqual(vars(made), before)
         self.assertEqual((history, logs), ((0, 3, 1, 2, 0), logs_of(made, (0, 3, 1, 2, 0))))
 
+    def test_logs_stay_as_they_are(self):
+        made = house(4, self.ROADS, ((0, 1), (2, 3)))
+        before = dict(vars(made))
+        logs = logs_of(made, (0, 3, 1, 2, 0))
+        kept = ((), logs[1], (), logs[3])
+        for _ in range(2):
+            for call in (history_of, totals, cuts_many):
+                self.assertEqual(call(made, logs), call(made, logs))
+            for call, argument in ((is_cut, (1, 1)), (cut_rows, (1, 1)), (greatest_cut, (2, 1)), (nth_order, 0),
+                                   (cut_of_rows, (1, 1, 1, 1)), (least_cut, ((0, 2), (1, 1))), (struck, (0, 2)),
+                                   (order_rank, (0, 3, 1, 2, 0)), (forgotten, (1, 1)), (kept_logs, (0, 2))):
+                self.assertEqual(call(made, logs, argument), call(made, logs, argument))
+            for call in (orders_many, sliced):
+                self.assertEqual(call(made, logs, (1, 1), (3, 2)), call(made, logs, (1, 1), (3, 2)))
+            for call in (whole_again, sure_hidden, rebuilt, all_logs, kept_right):
+                self.assertEqual(call(made, kept, (0, 2)), call(made, kept, (0, 2)))
+            self.assertIs(hidden_ahead(made, kept, (0, 2), (0, 2), (0, 3)), True)
+        self.assertEqual(vars(made), before)
+        self.assertEqual(logs, logs_of(made, (0, 3, 1, 2, 0)))
+        self.assertEqual(kept, ((), logs[1], (), logs[3]))
+
     def test_tuples_are_returned_and_the_same_again(self):
         for call in (some_parts, two_sides, fewest):
             got = call(4, self.ROADS)
@@ -94,6 +134,11 @@ class Numbers(unittest.TestCase):
         self.assertIs(logs_right(home, (((1, (True,)),), ((0, (1,)),))), False)
         refuses(self, BadMark, 0, ahead, (False,), (1,))
         refuses(self, BadMark, 1, ahead, (0,), (True,))
+        refuses(self, BadMark, 0, clipped, (False,), (1,))
+        refuses(self, BadMark, 1, clipped, (0,), (True,))
+        self.assertIs(is_cut(home, logs_of(home, (0,)), (True,)), False)
+        self.assertIs(kept_right(home, (((1, (True,)),), ()), (1,)), False)
+        self.assertIs(kept_right(home, (((1, (1,)),), ()), (True,)), False)
 
 
 class Files(unittest.TestCase):
