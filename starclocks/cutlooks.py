@@ -46,15 +46,26 @@ def bound_of_rows(house, logs, lines, rows):
     return bound
 
 
-def cut_of_rows(house, logs, rows):
-    """The greatest cut in which no hand has more rows than rows says."""
-    lines = right_lines(house, logs)
-    if len(rows) != house.n:
+def lowered_to_rows(house, logs, lines, cut, rows):
+    """The greatest cut that is nowhere above this one and in which no hand has more rows than rows says."""
+    bound = bound_of_rows(house, logs, lines, rows)
+    return lowered(lines, [min(a, b) for a, b in zip(cut, bound)])
+
+
+def check_rows(logs, rows):
+    """Raises BadHand unless there is one number for each hand, from 0 to how many rows it has."""
+    if len(rows) != len(logs):
         raise BadHand(len(rows))
     for hand, many in enumerate(rows):
         if not is_index(many, len(logs[hand]) + 1):
             raise BadHand(hand)
-    return lowered(lines, bound_of_rows(house, logs, lines, rows))
+
+
+def cut_of_rows(house, logs, rows):
+    """The greatest cut in which no hand has more rows than rows says."""
+    lines = right_lines(house, logs)
+    check_rows(logs, rows)
+    return lowered_to_rows(house, logs, lines, total_cut(lines), rows)
 
 
 def least_cut(house, logs, names):

@@ -1,5 +1,6 @@
 """Logs: for each hand the rows of its own meetings, pairs of a mate and a mark."""
 
+from starclocks.errors import BadLogs
 from starclocks.forms import is_mark, is_number, is_pair
 from starclocks.marks import marks
 from starclocks.parts import part_of
@@ -32,14 +33,39 @@ def is_row_mark(house, value):
     return is_mark(value) and len(value) == len(house.parts) and all([entry <= MOST_ENTRY for entry in value])
 
 
+def is_mate(tied, hand, value):
+    """Whether the value, which may be any, is a hand with a road to this one."""
+    # It is asked to be a number first, for not every value may be a key.
+    return is_number(value) and (hand, value) in tied
+
+
+def is_row(house, tied, hand, value):
+    """Whether the value, which may be any, is by its form a row of the hand."""
+    return is_pair(value) and is_mate(tied, hand, value[0]) and is_row_mark(house, value[1])
+
+
 def bad_row(house, logs):
     """The place (hand, index) of the first row that is no row of its hand, or None."""
     tied = ties(house)
     for hand, log in enumerate(logs):
         for index, row in enumerate(log):
-            # The mate is asked to be a number first, for not every value may be a key.
-            if not is_pair(row) or not is_number(row[0]) or (hand, row[0]) not in tied:
-                return (hand, index)
-            if not is_row_mark(house, row[1]):
+            if not is_row(house, tied, hand, row):
                 return (hand, index)
     return None
+
+
+def check_form(house, logs):
+    """Raises BadLogs if a row has not the form of a row; nothing else is asked."""
+    at = bad_row(house, logs)
+    if at is not None:
+        raise BadLogs((at[0], at[1], 0))
+
+
+def clock_of(house, log):
+    """The mark of the last row of a log; all 0 if it has none."""
+    return log[-1][1] if log else (0,) * len(house.parts)
+
+
+def first_rows(logs, rows):
+    """The logs with just so many first rows of each hand."""
+    return tuple([log[:many] for log, many in zip(logs, rows)])

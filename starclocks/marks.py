@@ -9,9 +9,14 @@ def at_most(one, two):
     return all([a <= b for a, b in zip(one, two)])
 
 
+def greater(one, two):
+    """The entrywise greatest of two vectors."""
+    return tuple([max(a, b) for a, b in zip(one, two)])
+
+
 def made_mark(one, two, part):
     """The mark of a meeting on a road of the part: the entrywise greatest of two clocks, 1 more at the part."""
-    mark = [max(a, b) for a, b in zip(one, two)]
+    mark = list(greater(one, two))
     mark[part] += 1
     return tuple(mark)
 

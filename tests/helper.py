@@ -308,3 +308,32 @@ def inner_by_words(home, lost):
     lone = [road for road in inner
             if all(not set(home.roads[road]) & set(home.roads[other]) for other in inner if other != road)]
     return inner, lone
+
+
+# Rows that are none of hand 2 of LINE by their form, each for another reason.
+NO_ROWS = ODD + (0, (1,), (1, (1, 0), 0), (1, ()), (1, (1,)), (1, (1, 0, 0)), (1, "10"), (1, 1), ("1", (1, 0)),
+                 ((1,), (1, 0)), (1, (1, "0")), (1, (1, (0,))), (1, (1, -1)), (1, (201, 0)), (1, (1, 10 ** 30)),
+                 (0, (1, 1)), (2, (1, 1)), (3, (1, 1)), (-1, (1, 1)), (10 ** 30, (1, 1)), (True, (1, 1)),
+                 (1, (1, True)))
+
+
+def asks_forms_alone(test, call):
+    """The call refuses the first row that is none by its form with why 0, and asks for nothing else."""
+    logs = logs_of(LINE, (0, 1, 0))
+    for odd in NO_ROWS:
+        refuses(test, errors.BadLogs, (2, 0, 0), call, LINE, with_row(logs, 2, 0, odd))
+        refuses(test, errors.BadLogs, (2, 1, 0), call, LINE, with_row(logs, 2, 0, logs[2][0], odd))
+        refuses(test, errors.BadLogs, (2, 0, 0), call, LINE, ((), (), (odd, odd)))
+    refuses(test, errors.BadLogs, (1, 2, 0), call, LINE, with_row(with_row(logs, 1, 2, "x"), 2, 0, "y"))
+    refuses(test, errors.BadLogs, (1, 1, 0), call, LINE, with_row(with_row(logs, 1, 2, "x"), 1, 1, "y"))
+    refuses(test, errors.BadLogs, (0, 0, 0), call, BARE, (((1, ()),), (), ()))
+    # Faults of rows by form are none here, and neither are very many meetings.
+    for fine in (with_row(logs, 2, 0, (1, (1, 2))), with_row(logs, 0, 0), (logs[0] * 2, (), logs[2]),
+                 (((1, (200, 200)), (1, (0, 0))), (), ())):
+        call(LINE, fine)
+    call(PIECES, two_roads(200, 200))
+
+
+def all_houses():
+    """The houses of several forms, with one of one hand and one without roads."""
+    return HOUSES + (TIED, BARE, house(1, (), ()), full_house())
