@@ -1,4 +1,6 @@
-"""The forms of plain values, asked of values that may be anything built from tuples, texts and numbers."""
+"""The forms of plain values, which may be anything built from tuples, texts and numbers, and of rows of texts."""
+
+DIGITS = "0123456789"
 
 
 def is_number(value):
@@ -39,3 +41,26 @@ def is_rising(value, many):
 def is_mark(value):
     """Whether the value is a tuple of numbers from 0 on."""
     return isinstance(value, tuple) and all([is_number(entry) and entry >= 0 for entry in value])
+
+
+def number_of(word):
+    """The number that a number word tells; None if it is no number word."""
+    if not 1 <= len(word) <= 3 or any([sign not in DIGITS for sign in word]):
+        return None
+    if word[0] == "0" and len(word) > 1:
+        return None
+    return int(word)
+
+
+def read_rows(text):
+    """For each row a pair: its first word, and the tuple of the numbers of the others, None for other words."""
+    found = []
+    for row in text.split("\n"):
+        first, *others = row.split(" ")
+        found.append((first, tuple([number_of(word) for word in others])))
+    return found
+
+
+def written_row(first, numbers):
+    """The row of a first word and of numbers."""
+    return " ".join([first] + [str(number) for number in numbers])

@@ -35,19 +35,26 @@ def is_part(roads, part):
     return is_star(roads, part) or is_triangle(roads, part)
 
 
+def part_fits(roads, before, value):
+    """Whether the value, which may be any, is a part that can stand behind these parts before it."""
+    if not is_part(roads, value):
+        return False
+    if len(before) > 0 and value[0] <= before[-1][0]:
+        return False
+    return not any([road in part for part in before for road in value])
+
+
+def all_taken(roads, parts):
+    """Whether each road is in one of these parts, of which no two share a road."""
+    return sum([len(part) for part in parts]) == len(roads)
+
+
 def bad_part(roads, parts):
     """The first index whose entry cannot be a part there; how many parts if a road is in none; or None."""
-    taken = []
     for i, part in enumerate(parts):
-        if not is_part(roads, part):
+        if not part_fits(roads, parts[:i], part):
             return i
-        if i > 0 and part[0] <= parts[i - 1][0]:
-            return i
-        if any([road in taken for road in part]):
-            return i
-        taken.extend(part)
-    # The roads that are taken are all different, so their number tells whether one is left.
-    if len(taken) < len(roads):
+    if not all_taken(roads, parts):
         return len(parts)
     return None
 

@@ -16,12 +16,15 @@ def is_road(n, road):
     return is_pair(road) and is_index(road[1], n) and is_index(road[0], road[1])
 
 
+def road_fits(n, before, value):
+    """Whether the value, which may be any, is a road and is above the last one of those before it."""
+    return is_road(n, value) and (len(before) == 0 or value > before[-1])
+
+
 def bad_road(n, roads):
     """The first index whose entry is no road or is not above the one before it, or None."""
     for i, road in enumerate(roads):
-        if not is_road(n, road):
-            return i
-        if i > 0 and road <= roads[i - 1]:
+        if not road_fits(n, roads[:i], road):
             return i
     return None
 

@@ -7,20 +7,30 @@ import unittest
 from pathlib import Path
 
 from starclocks.asks import ahead, depth, first_beside, past
+from starclocks.copies import common, joined
 from starclocks.cutlooks import cut_of_rows, cuts_many, greatest_cut, least_cut
 from starclocks.cuts import cut_rows, is_cut, totals
-from starclocks.errors import BadMark
+from starclocks.errors import BadLogs, BadMark, BadMeeting
 from starclocks.fewest import fewest
+from starclocks.forget import common_cut, may_forget
+from starclocks.grow import grown, moved
+from starclocks.heads import head, mended, stuck
 from starclocks.hidden import hidden_ahead, sure_hidden
 from starclocks.histories import is_history
+from starclocks.housetext import house_of, house_text
+from starclocks.knows import known, missing
+from starclocks.live import Live
 from starclocks.logs import logs_of
 from starclocks.logsjudge import fault, logs_right
+from starclocks.logstext import logs_of_text, logs_text
 from starclocks.lost import kept_logs, whole_again
 from starclocks.marks import hand_marks, marks, names
 from starclocks.merged import history_of
 from starclocks.orders import nth_order, order_rank, orders_many
 from starclocks.parts import house, is_parts, part_of
 from starclocks.rebuilt import all_logs, kept_right, rebuilt
+from starclocks.remarks import remarked
+from starclocks.saved import fallen, line, line_after, saved_right, useless
 from starclocks.slices import clipped, forgotten, sliced
 from starclocks.strikes import struck
 from starclocks.webs import some_parts, two_sides
@@ -48,7 +58,22 @@ INTERFACE = {
     "lost": {"kept_logs": "house logs lost", "whole_again": "house kept lost"},
     "hidden": {"sure_hidden": "house kept lost", "hidden_ahead": "house kept lost name of"},
     "rebuilt": {"rebuilt": "house kept lost", "all_logs": "house kept lost", "kept_right": "house kept lost"},
+    "heads": {"head": "house logs", "mended": "house logs", "stuck": "house logs"},
+    "remarks": {"remarked": "house mates"},
+    "saved": {"saved_right": "house logs saved", "line": "house logs saved", "fallen": "house logs saved",
+              "useless": "house logs saved", "line_after": "house logs saved rows"},
+    "knows": {"known": "house logs", "missing": "house logs one two"},
+    "forget": {"common_cut": "house logs", "may_forget": "house logs hand"},
+    "copies": {"joined": "house one two", "common": "house one two"},
+    "grow": {"grown": "house a b part", "moved": "mark parts_go many"},
+    "live": {"Live": None},
+    "housetext": {"house_text": "house", "house_of": "text"},
+    "logstext": {"logs_text": "house logs", "logs_of_text": "house text"},
 }
+
+METHODS = {"__init__": "self house", "meet": "self road", "strike": "self name", "forget": "self cut",
+           "grow": "self a b part", "lose": "self lost", "undo": "self", "redo": "self", "house": "self",
+           "logs": "self", "base": "self", "last": "self", "whole": "self name"}
 
 
 class Interface(unittest.TestCase):
@@ -61,6 +86,10 @@ class Interface(unittest.TestCase):
                 if names is not None:
                     self.assertTrue(inspect.isfunction(found))
                     self.assertEqual(list(inspect.signature(found).parameters), names.split(), name)
+
+    def test_methods_of_live_stand_in_the_class_itself(self):
+        for name, names in METHODS.items():
+            self.assertEqual(list(inspect.signature(vars(Live)[name]).parameters), names.split(), name)
 
 
 class Unchanged(unittest.TestCase):
@@ -111,9 +140,34 @@ class Unchanged(unittest.TestCase):
             for call in (whole_again, sure_hidden, rebuilt, all_logs, kept_right):
                 self.assertEqual(call(made, kept, (0, 2)), call(made, kept, (0, 2)))
             self.assertIs(hidden_ahead(made, kept, (0, 2), (0, 2), (0, 3)), True)
+            for call in (head, mended, stuck, known, common_cut, logs_text):
+                self.assertEqual(call(made, logs), call(made, logs))
+            saved = ((0, 2), (0,), (0, 1), (0, 1, 2))
+            for call in (saved_right, line, fallen, useless):
+                self.assertEqual(call(made, logs, saved), call(made, logs, saved))
+            self.assertEqual(line_after(made, logs, saved, (1, 0, 1, 1)), line_after(made, logs, saved, (1, 0, 1, 1)))
+            self.assertEqual(missing(made, logs, 0, 3), missing(made, logs, 0, 3))
+            self.assertEqual(may_forget(made, logs, 1), may_forget(made, logs, 1))
+            self.assertEqual(joined(made, logs, ((),) * 4), common(made, logs, logs))
+            self.assertEqual(remarked(made, ((1, 2), (0,), (0,), ())), remarked(made, ((1, 2), (0,), (0,), ())))
+            self.assertEqual(grown(made, 0, 3, 2), grown(made, 0, 3, 2))
+            self.assertEqual(house_of(house_text(made)), made)
+            self.assertEqual(logs_of_text(made, logs_text(made, logs)), logs)
+            self.leads_a_live_house(made)
+            self.assertEqual(saved, ((0, 2), (0,), (0, 1), (0, 1, 2)))
         self.assertEqual(vars(made), before)
         self.assertEqual(logs, logs_of(made, (0, 3, 1, 2, 0)))
         self.assertEqual(kept, ((), logs[1], (), logs[3]))
+
+    def leads_a_live_house(self, made):
+        live = Live(made)
+        live.meet(0)
+        live.grow(0, 3, 2)
+        live.meet(2)
+        live.forget((1, 0, 0))
+        live.strike(live.last())
+        live.lose((0,))
+        live.undo()
 
     def test_tuples_are_returned_and_the_same_again(self):
         for call in (some_parts, two_sides, fewest):
@@ -139,6 +193,12 @@ class Numbers(unittest.TestCase):
         self.assertIs(is_cut(home, logs_of(home, (0,)), (True,)), False)
         self.assertIs(kept_right(home, (((1, (True,)),), ()), (1,)), False)
         self.assertIs(kept_right(home, (((1, (1,)),), ()), (True,)), False)
+        self.assertIs(saved_right(home, logs_of(home, (0,)), ((0, True), (0,))), False)
+        self.assertIs(saved_right(home, logs_of(home, (0,)), ((False, 1), (0,))), False)
+        refuses(self, BadMark, 0, moved, (True,), (0,), 1)
+        refuses(self, BadLogs, (0, 0, 0), head, home, (((True, (1,)),), ()))
+        refuses(self, BadLogs, (0, 0, 0), logs_text, home, (((1, (True,)),), ()))
+        refuses(self, BadMeeting, (0, True), Live(home).whole, (0, True))
 
 
 class Files(unittest.TestCase):
